@@ -1,0 +1,1 @@
+"""Cornerhouse: bodies told by rows, and by corners and rays."""
