@@ -1,11 +1,10 @@
 """Bodies, told by rows and by corners and rays, each telling made from the other.
 
-A point (tops, bottom) is taken as the tuple of its tops and its bottom, a ray as that of its numbers and nought,
-a row (a, b) as that of a and -b: so a point holds a row where the product of both is not below nought, and the
-two tellings of a body are two cones, each made of the other's rows.
+As flat tuples, the two tellings of a body are two cones, each made of the other's rows.
 """
 
 from cornerhouse.cones import cone
+from cornerhouse.flat import as_point, as_row, flat_makers, flat_rows
 from cornerhouse.forms import check_corners, check_point, check_rows
 from cornerhouse.whole import opposite, product
 
@@ -46,20 +45,18 @@ def both_ways(lines):
 
 def corners_and_rays(dim, rows):
     """The corners and rays that make the body that the rows tell; no corners where it is empty."""
-    flat = [bottom_row(dim)] + [a + (-b,) for a, b in rows]
-    lines, rays = cone(flat, dim + 1)
-    corners = [(ray[:dim], ray[dim]) for ray in rays if ray[dim] > 0]
+    lines, rays = cone([bottom_row(dim)] + flat_rows(rows), dim + 1)
+    corners = [as_point(ray) for ray in rays if ray[dim] > 0]
     ends = [ray[:dim] for ray in both_ways(lines) + rays if ray[dim] == 0]
     return sorted(corners), sorted(ends)
 
 
 def told_rows(dim, corners, rays):
     """The rows that tell the body that the corners, one or more, and rays make."""
-    flat = [tops + (bottom,) for tops, bottom in corners] + [ray + (0,) for ray in rays]
-    lines, bounds = cone(flat, dim + 1)
+    lines, bounds = cone(flat_makers(corners, rays), dim + 1)
     # The row that all points hold can bound the cone, but bounds no body.
     held = [row for row in both_ways(lines) + bounds if row != bottom_row(dim)]
-    return sorted([(row[:dim], -row[dim]) for row in held])
+    return sorted([as_row(row) for row in held])
 
 
 def empty_body(dim):

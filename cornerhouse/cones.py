@@ -40,9 +40,17 @@ def bent(lines, place, masked, row, bit):
     return kept, moved
 
 
-def are_neighbours(mask, other, masks):
+def bits(mask):
+    """How many bits of it are set."""
+    return f"{mask:b}".count("1")
+
+
+def are_neighbours(mask, other, masks, fewest):
     """Whether no third ray lies at all the bounds at which these two lie."""
     shared = mask & other
+    # Two neighbours share the fewest bounds or more: that rules out most pairs without a look at all rays.
+    if bits(shared) < fewest:
+        return False
     found = 0
     for held in masks:
         if held & shared == shared:
@@ -53,23 +61,23 @@ def are_neighbours(mask, other, masks):
     return True
 
 
-def crossed(above, below, masked, row, bit):
+def crossed(above, below, masked, row, bit, fewest):
     """Masked rays at the row's bound, between the neighbours on its two sides."""
     masks = [mask for ray, mask in masked]
     found = []
     for high, high_mask in above:
         for low, low_mask in below:
-            if are_neighbours(high_mask, low_mask, masks):
+            if are_neighbours(high_mask, low_mask, masks, fewest):
                 found.append((levelled(low, high, row), (high_mask & low_mask) | bit))
     return found
 
 
-def halved(masked, row, bit):
+def halved(masked, row, bit, fewest):
     """Masked rays behind a row whose bound no line crosses."""
     above = [(ray, mask) for ray, mask in masked if product(ray, row) > 0]
     level = [(ray, mask | bit) for ray, mask in masked if product(ray, row) == 0]
     below = [(ray, mask) for ray, mask in masked if product(ray, row) < 0]
-    return above + level + crossed(above, below, masked, row, bit)
+    return above + level + crossed(above, below, masked, row, bit, fewest)
 
 
 def cone(rows, size):
@@ -83,7 +91,8 @@ def cone(rows, size):
     for row in rows:
         place = crossing(lines, row)
         if place is None:
-            masked = halved(masked, row, bit)
+            # The rows so far leave the lines free, those at whose bounds two neighbours lie two ways more.
+            masked = halved(masked, row, bit, size - len(lines) - 2)
         else:
             lines, masked = bent(lines, place, masked, row, bit)
         bit = bit * 2

@@ -6,12 +6,12 @@ class BodyError(ValueError):
 
 
 class BadBody(BodyError):
-    """A number of dimensions, a row, a point or a ray is none."""
+    """A number of dimensions, a row, a point, a ray, a direction or a table with its shift is none."""
 
 
 class Uneven(BodyError):
-    """Two things have other numbers of dimensions."""
+    """Two bodies, or a body and a row of a table, have other numbers of dimensions."""
 
 
 class NoAxis(BodyError):
-    """A body has no such axis."""
+    """A body has no such axis, or none that it can lose."""

@@ -1,6 +1,6 @@
-"""Refusals of what has another form than a body is told by."""
+"""Refusals of what has another form than a body is told, asked or mapped by."""
 
-from cornerhouse.errors import BadBody
+from cornerhouse.errors import BadBody, NoAxis, Uneven
 
 MOST_DIMENSIONS = 4
 
@@ -67,3 +67,37 @@ def check_corners(dim, corners, rays):
         check_point(dim, corner)
     for ray in rays:
         check_ray(dim, ray)
+
+
+def check_direction(dim, direction):
+    """Refuse what is no direction of so many dimensions."""
+    if not are_numbers(direction, dim):
+        raise BadBody("a direction is a number for each dimension")
+
+
+def check_even(one, other):
+    """Refuse two bodies of other numbers of dimensions."""
+    if one.dim != other.dim:
+        raise Uneven("two bodies have other numbers of dimensions")
+
+
+def check_axis(dim, axis):
+    """Refuse what is no axis that a body of so many dimensions can lose."""
+    if dim < 2:
+        raise NoAxis("a body of one dimension has no shadow")
+    if not is_number(axis) or axis < 0 or axis >= dim:
+        raise NoAxis("an axis is a number from 0 to below the number of dimensions")
+
+
+def check_table(dim, table, shift):
+    """Refuse what maps no body of so many dimensions."""
+    if not isinstance(table, list) or len(table) < 1 or len(table) > MOST_DIMENSIONS:
+        raise BadBody("a table is a list of one to four rows")
+    if not are_numbers(shift, len(table)):
+        raise BadBody("a shift is a number for each row of the table")
+    for row in table:
+        if not isinstance(row, tuple) or not are_numbers(row, len(row)):
+            raise BadBody("a row of a table is a tuple of numbers")
+    for row in table:
+        if len(row) != dim:
+            raise Uneven("a row of a table has another count than the body has dimensions")

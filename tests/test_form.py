@@ -18,6 +18,15 @@ FUNCTIONS = {
     "whole.py": {"lowest": ["numbers"], "rank": ["rows"]},
     "cones.py": {"cone": ["rows", "size"]},
     "bodies.py": {"by_rows": ["dim", "rows"], "by_corners": ["dim", "corners", "rays"]},
+    "deeds.py": {
+        "cut": ["one", "other"], "joined": ["one", "other"], "summed": ["one", "other"],
+        "shadowed": ["body", "axis"], "mapped": ["body", "table", "shift"],
+    },
+    "pricing.py": {"priced": ["dim", "rows", "direction"], "parted": ["one", "other"]},
+    "weaving.py": {
+        "woven": ["dim", "corners", "rays", "point"], "within": ["one", "other"], "same": ["one", "other"],
+    },
+    "faces.py": {"dimension": ["body"], "faces": ["body"], "inner": ["body"]},
 }
 BARRED_CALLS = {"open", "input", "print", "eval", "exec", "compile", "globals", "getattr", "float", "hash", "id"}
 BARRED_WORDS = re.compile(r"\b(type|typing|enum|Enum|Flag|Generic|Protocol|ABC|namedtuple|law)\b")
